@@ -1,0 +1,1 @@
+"""Posts in the order in which they came about."""
