@@ -100,6 +100,9 @@ def is_known_so(node):
 def is_mine_so(node):
     last = node.seen[node.me]
     first = last - len(node.mine) + 1
+    # Each that's kept is one of those that were seen of me, and the first of these has the count 1.
+    if first < 1:
+        return False
     return counts_of(node.mine, node.me) == list(range(first, last + 1))
 
 

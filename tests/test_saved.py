@@ -41,7 +41,8 @@ class SaveAndLoad(unittest.TestCase):
         self.come_back(saved(0, 2, stamp(n0=HIGHEST), mine=top))
         self.come_back(saved(0, 2, stamp(n1=HIGHEST - 1), waits={1: [(stamp(n1=HIGHEST), b"")]}))
         self.come_back(saved(0, 2, stamp(n0=1), {1: stamp(n0=HIGHEST, n1=HIGHEST)}, [(stamp(n0=1), b"")]))
-        self.come_back(saved(0, 2, stamp(n0=1), mine=[(stamp(n0=0), b""), (stamp(n0=1), b"")]))
+        self.come_back(saved(0, 2, stamp(n0=1), mine=[(stamp(n0=1), b"")]))
+        self.come_back(saved(1, 2, stamp(n1=32), mine=[(stamp(n1=count), b"") for count in range(1, 33)]))
 
     def test_a_save_changes_nothing(self):
         got = ask(begin(0, 0, 2), post(0, b"a"), save(0), save(0))
@@ -168,6 +169,15 @@ class LoadRefused(unittest.TestCase):
             self.refuse(self.build(mine=mine))
         self.refuse(saved(0, 2, mine=[(stamp(n0=1), b"")]))
         self.refuse(saved(0, 2, stamp(n0=HIGHEST), mine=[(stamp(n0=HIGHEST - 1), b"")]))
+
+    def test_no_more_of_mine_are_kept_than_were_seen(self):
+        for me, seen in ((0, 0), (0, 1), (1, 2), (3, 5), (2, 30), (3, 31)):
+            first = [(stamp_of(me, count), [count]) for count in range(seen + 1)]
+            self.refuse(saved(me, 4, stamp_of(me, seen), mine=first))
+            others_seen = [9] * 4 + [0] * 4
+            others_seen[me] = seen
+            known = {j: [HIGHEST] * 4 + [0] * 4 for j in range(4) if j != me}
+            self.refuse(saved(me, 4, others_seen, known, first))
 
     def test_the_counts_of_those_that_wait_rise_within_32_above(self):
         for counts in ([5], [4, 6], [0], [6, 6], [7, 6], [6, 8, 7], [38], [6, 38], [37, 37], [HIGHEST]):
