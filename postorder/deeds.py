@@ -1,4 +1,4 @@
-"""What a node does: it posts, and it takes letters."""
+"""What a node does: it posts, takes letters, shows posts, and sends letters again."""
 
 from postorder.letters import POST_LETTER_BYTES
 from postorder.letters import SEEN_LETTER_BYTES
@@ -14,10 +14,12 @@ from postorder.posts import Post
 from postorder.posts import counts_of
 from postorder.refusals import BAD_ARGUMENTS
 from postorder.refusals import BAD_BYTES
+from postorder.refusals import NOTHING_TO_SHOW
 from postorder.refusals import NO_MORE
 from postorder.refusals import TOO_LONG
 from postorder.stamps import HIGHEST
 from postorder.state import ROOM
+from postorder.state import is_other
 from postorder.state import others_of
 
 LONGEST_LETTER = 1024
@@ -55,13 +57,13 @@ def take_post(node, most, author, post):
     count = post.stamp[author]
     seen = node.seen[author]
     if count <= seen:
-        return tell_seen(node, most, author)
+        return tell_seen(node, author, most)
     if count <= seen + ROOM:
         let_wait(node.waits[author], author, post)
     return [0]
 
 
-def tell_seen(node, most, to):
+def tell_seen(node, to, most):
     if SEEN_LETTER_BYTES > most:
         return [TOO_LONG]
     return [SEEN_LETTER_BYTES] + seen_letter(to, node.me, node.seen)
@@ -80,3 +82,45 @@ def learn(node, sender, seen):
     known_to_all = min([node.known[j][node.me] for j in others_of(node)])
     while len(node.mine) > 0 and node.mine[0].stamp[node.me] <= known_to_all:
         node.mine.pop(0)
+
+
+def show_next(node):
+    author = next_author(node)
+    if author is None:
+        return [NOTHING_TO_SHOW]
+    post = node.waits[author].pop(0)
+    node.seen[author] += 1
+    return [len(post.text), author] + post.text
+
+
+# None where nothing may be shown.
+def next_author(node):
+    for author in others_of(node):
+        waiting = node.waits[author]
+        if len(waiting) > 0 and may_be_shown(node, author, waiting[0]):
+            return author
+    return None
+
+
+def may_be_shown(node, author, post):
+    if post.stamp[author] != node.seen[author] + 1:
+        return False
+    return all([post.stamp[j] <= node.seen[j] for j in range(node.n) if j != author])
+
+
+def send_again(node, to, most):
+    if not is_other(node, to) or most < 0:
+        return [BAD_ARGUMENTS]
+    sent = []
+    for post in node.mine:
+        if post.stamp[node.me] > node.known[to][node.me]:
+            sent.extend(post_letter(to, node.me, post))
+    if len(sent) > most:
+        return [TOO_LONG]
+    return [len(sent)] + sent
+
+
+def tell(node, to, most):
+    if not is_other(node, to) or most < 0:
+        return [BAD_ARGUMENTS]
+    return tell_seen(node, to, most)

@@ -1,6 +1,9 @@
 """The calls on eight objects, each of which is a node."""
 
+from postorder.deeds import send_again
+from postorder.deeds import show_next
 from postorder.deeds import take_letter
+from postorder.deeds import tell
 from postorder.deeds import write_post
 from postorder.reader import Reader
 from postorder.refusals import BAD_ARGUMENTS
@@ -16,6 +19,10 @@ PO_SAVE = 1
 PO_LOAD = 2
 PO_POST = 3
 PO_RECEIVE = 4
+PO_NEXT = 5
+PO_AGAIN = 6
+PO_TELL = 7
+PO_SEEN = 8
 
 
 def answers(calls):
@@ -44,6 +51,16 @@ def next_answer(nodes, reader):
     if call == PO_RECEIVE:
         most = reader.take_one()
         return take_letter(nodes[place], most, reader.take_row())
+    if call == PO_NEXT:
+        return show_next(nodes[place])
+    if call == PO_AGAIN:
+        to = reader.take_one()
+        return send_again(nodes[place], to, reader.take_one())
+    if call == PO_TELL:
+        to = reader.take_one()
+        return tell(nodes[place], to, reader.take_one())
+    if call == PO_SEEN:
+        return [0] + nodes[place].seen
     raise ValueError(f"no such call: {call}")
 
 

@@ -89,6 +89,22 @@ def receive(place, letter, most=MOST):
     return [4, place, most, len(letter)] + list(letter)
 
 
+def show(place):
+    return [5, place]
+
+
+def again(place, to, most=MOST):
+    return [6, place, to, most]
+
+
+def tell(place, to, most=MOST):
+    return [7, place, to, most]
+
+
+def look(place):
+    return [8, place]
+
+
 def ask(*calls):
     """The answers of the calls, a list each, without how many numbers they have."""
     joined = [number for call in calls for number in call]
@@ -116,3 +132,9 @@ def sent(*letters):
     """What is answered where these letters are sent."""
     joined = [part for letter in letters for part in letter]
     return [len(joined)] + joined
+
+
+def shown(author, words):
+    """What is answered where this text of the author is shown."""
+    words = list(words)
+    return [len(words), author] + words
